@@ -1,0 +1,1 @@
+"""A room's acoustics: rooms."""

@@ -1,0 +1,167 @@
+"""Rooms, as lists of whole numbers: h, the floor's stuff, the ceiling's; then of each corner x, y, its wall's stuff."""
+
+FEWEST_CORNERS = 3
+MOST_CORNERS = 64
+LARGEST_LENGTH = 4095
+LARGEST_STUFF = 7
+
+
+def judge(room):
+    """[0] if it is a room, else [-5, rule, wall]."""
+    fault = find_fault(room)
+    if fault is not None:
+        return [-5] + fault
+    return [0]
+
+
+def find_fault(room):
+    """The first fault as [rule, wall], None if there is none."""
+    if not has_whole_corners(room):
+        return [1, 0]
+    if not has_sound_head(room):
+        return [2, 0]
+    wall = first_wrong_corner(room)
+    if wall is not None:
+        return [3, wall]
+    return find_fault_of_lines(lines_of(room))
+
+
+def find_fault_of_lines(lines):
+    """As find_fault, from rule 4 on: what the lines alone tell."""
+    wall = first_wrong_line(lines)
+    if wall is not None:
+        return [4, wall]
+    wall = first_line_going_on(lines)
+    if wall is not None:
+        return [5, wall]
+    wall = first_line_met(lines)
+    if wall is not None:
+        return [6, wall]
+    if twice_area(lines) <= 0:
+        return [7, 0]
+    return None
+
+
+def count_corners(room):
+    return (len(room) - 3) // 3
+
+
+def has_whole_corners(room):
+    if len(room) < 3 or len(room) % 3 != 0:
+        return False
+    return FEWEST_CORNERS <= count_corners(room) <= MOST_CORNERS
+
+
+def has_sound_head(room):
+    return 1 <= room[0] <= LARGEST_LENGTH and is_stuff(room[1]) and is_stuff(room[2])
+
+
+def is_stuff(number):
+    return 0 <= number <= LARGEST_STUFF
+
+
+def is_coordinate(number):
+    return 0 <= number <= LARGEST_LENGTH
+
+
+def first_wrong_corner(room):
+    for i in range(count_corners(room)):
+        at = 3 + 3 * i
+        if not (is_coordinate(room[at]) and is_coordinate(room[at + 1]) and is_stuff(room[at + 2])):
+            return i
+    return None
+
+
+def lines_of(room):
+    """Of each line the x, y it starts from and the x, y it ends at."""
+    corners = count_corners(room)
+    lines = []
+    for i in range(corners):
+        start = 3 + 3 * i
+        end = 3 + 3 * ((i + 1) % corners)
+        lines.append((room[start], room[start + 1], room[end], room[end + 1]))
+    return lines
+
+
+def run_along_x(line):
+    return line[2] - line[0]
+
+
+def run_along_y(line):
+    return line[3] - line[1]
+
+
+def is_straight(line):
+    """Whether it runs along x or along y (or has no length)."""
+    return run_along_x(line) == 0 or run_along_y(line) == 0
+
+
+def has_direction(line):
+    along_x = abs(run_along_x(line))
+    along_y = abs(run_along_y(line))
+    return along_x + along_y > 0 and (is_straight(line) or along_x == along_y)
+
+
+def first_wrong_line(lines):
+    for i, line in enumerate(lines):
+        if not has_direction(line):
+            return i
+    return None
+
+
+def are_parallel(one, other):
+    return run_along_x(one) * run_along_y(other) == run_along_y(one) * run_along_x(other)
+
+
+def first_line_going_on(lines):
+    """The first line that runs in the next one's direction or in the opposite one."""
+    for i, line in enumerate(lines):
+        if are_parallel(line, lines[(i + 1) % len(lines)]):
+            return i
+    return None
+
+
+def first_line_met(lines):
+    """The first line that has a point in common with a line that isn't its neighbour."""
+    for i in range(len(lines)):
+        if is_met(lines, i):
+            return i
+    return None
+
+
+def is_met(lines, i):
+    for j, other in enumerate(lines):
+        # Steps ahead from line i: 0 is the line itself, 1 the next one, one less than all the one before.
+        ahead = (j - i) % len(lines)
+        if 1 < ahead < len(lines) - 1 and have_common_point(lines[i], other):
+            return True
+    return False
+
+
+def have_common_point(one, other):
+    # The spans are needed for lines on one straight line: there neither has an end beside the other.
+    if not (spans_overlap(one, other, 0) and spans_overlap(one, other, 1)):
+        return False
+    return reaches_across(one, other) and reaches_across(other, one)
+
+
+def spans_overlap(one, other, axis):
+    """Whether the stretches of x (axis 0) or of y (axis 1) that the lines go over have a number in common."""
+    lowest = max(min(one[axis], one[axis + 2]), min(other[axis], other[axis + 2]))
+    highest = min(max(one[axis], one[axis + 2]), max(other[axis], other[axis + 2]))
+    return lowest <= highest
+
+
+def reaches_across(one, other):
+    """Whether the ends of one aren't both strictly on the same side of the other, drawn on without end."""
+    return side_of(other, one[0], one[1]) * side_of(other, one[2], one[3]) <= 0
+
+
+def side_of(line, x, y):
+    """Above 0 if the point is to the line's left, below 0 to its right, 0 straight ahead, behind or on it."""
+    return run_along_x(line) * (y - line[1]) - run_along_y(line) * (x - line[0])
+
+
+def twice_area(lines):
+    """Twice the area that the lines go round; below 0 if it lies to their right."""
+    return sum([line[0] * line[3] - line[2] * line[1] for line in lines])

@@ -1,0 +1,117 @@
+"""Rooms that several tests use, and what tests ask of every call."""
+
+LOWEST = -2 ** 256
+HIGHEST = 2 ** 256 - 1
+
+TRIANGLE = [(0, 0), (4, 0), (0, 4)]
+BOX = [(0, 0), (6, 0), (6, 4), (0, 4)]
+DIAMOND = [(3, 0), (6, 3), (3, 6), (0, 3)]
+OCTAGON = [(1, 0), (2, 0), (3, 1), (3, 2), (2, 3), (1, 3), (0, 2), (0, 1)]
+# The two arms end on one straight line, with a gap between them.
+CUP = [(0, 0), (9, 0), (9, 5), (6, 5), (6, 2), (3, 2), (3, 5), (0, 5)]
+ARROW = [(0, 0), (4, 4), (8, 0), (8, 8), (0, 8)]
+LARGEST_BOX = [(0, 0), (4095, 0), (4095, 4095), (0, 4095)]
+
+
+def room_of(corners, h=3, floor=0, ceiling=0, stuff=0):
+    """The room's list; all its walls are of one stuff."""
+    room = [h, floor, ceiling]
+    for x, y in corners:
+        room.extend([x, y, stuff])
+    return room
+
+
+def staircase(steps, unit=1):
+    """A room of 2 * steps + 2 corners whose lines all run along x or y."""
+    corners = [(0, 0), (steps, 0)]
+    for step in range(1, steps + 1):
+        corners.append((steps - step + 1, step))
+        corners.append((steps - step, step))
+    return [(x * unit, y * unit) for x, y in corners]
+
+
+def comb(teeth, length):
+    """A room of 4 * teeth corners: a strip of width 1, and on it teeth, 1 wide and 1 apart."""
+    corners = [(0, 0), (2 * teeth - 1, 0)]
+    for tooth in reversed(range(teeth)):
+        corners.append((2 * tooth + 1, length))
+        corners.append((2 * tooth, length))
+        if tooth > 0:
+            corners.append((2 * tooth, 1))
+            corners.append((2 * tooth - 1, 1))
+    return corners
+
+
+def started_at(corners, first):
+    """The same corners in the same order, from another one on."""
+    return corners[first:] + corners[:first]
+
+
+# One or more rooms of each rule, with the rule and the wall that are to be told.
+FAULTS = [
+    ([], 1, 0),
+    ([3], 1, 0),
+    ([3, 0], 1, 0),
+    ([3, 0, 0], 1, 0),
+    (room_of(BOX) + [0], 1, 0),
+    (room_of(BOX) + [0, 0], 1, 0),
+    (room_of(BOX)[:-1], 1, 0),
+    (room_of([(0, 0), (4, 0)]), 1, 0),
+    # Without the bound of 64 corners it would be a room: a staircase, its first corner cut off.
+    (room_of([(0, 1), (1, 0)] + staircase(31, 2)[1:]), 1, 0),
+    ([0] * 1000, 1, 0),
+    ([0] * 999, 1, 0),
+    (room_of(BOX, h=0), 2, 0),
+    (room_of(BOX, h=4096), 2, 0),
+    (room_of(BOX, h=-1), 2, 0),
+    (room_of(BOX, floor=-1), 2, 0),
+    (room_of(BOX, floor=8), 2, 0),
+    (room_of(BOX, ceiling=-1), 2, 0),
+    (room_of(BOX, ceiling=8), 2, 0),
+    (room_of([(-1, 0), (6, 0), (6, 4), (0, 4)]), 3, 0),
+    (room_of([(0, 0), (6, 0), (6, 4096), (0, 4)]), 3, 2),
+    (room_of([(0, 0), (6, 0), (6, 4), (0, -1)]), 3, 3),
+    (room_of(BOX, stuff=8), 3, 0),
+    (room_of([(0, 0), (0, 0), (6, 4), (0, 4)]), 4, 0),
+    (room_of([(0, 0), (6, 1), (6, 4), (0, 4)]), 4, 0),
+    (room_of([(0, 0), (6, 0), (6, 4), (1, 4)]), 4, 3),
+    (room_of([(0, 0), (3, 0), (6, 0), (6, 4), (0, 4)]), 5, 0),
+    (room_of([(0, 0), (6, 0), (6, 4), (0, 4), (0, 2)]), 5, 3),
+    (room_of([(3, 0), (6, 0), (6, 4), (0, 4), (0, 0)]), 5, 4),
+    (room_of([(0, 0), (2, 2), (2, 0), (0, 2)]), 6, 0),
+    (room_of([(0, 0), (6, 0), (3, 3), (6, 6), (6, 3), (0, 3)]), 6, 1),
+    (room_of(BOX[::-1]), 7, 0),
+    (room_of(TRIANGLE[::-1]), 7, 0),
+]
+
+
+class Unchangeable(list):
+    """A list that no one can change, not for a while either."""
+
+    def refuse(self, *args, **kwargs):
+        raise AssertionError("what was handed in is being changed")
+
+    append = extend = insert = remove = pop = clear = sort = reverse = refuse
+    __setitem__ = __delitem__ = __iadd__ = __imul__ = refuse
+
+
+def check_keeps_nothing(case, call, room):
+    """The list stands as it was, and a second call, after others in between, answers as the first."""
+    before = list(room)
+    first = call(room)
+    case.assertEqual(room, before)
+    answer = list(first)
+    # A caller may do with its answer what it likes.
+    first.append(99)
+    call(room_of(OCTAGON))
+    call([])
+    case.assertEqual(call(room), answer)
+    case.assertEqual(call(Unchangeable(room)), answer)
+    case.assertEqual(room, before)
+
+
+def check_plain_answer(case, answer):
+    """Whole numbers in a list, and nothing that only equals them."""
+    case.assertIs(type(answer), list)
+    for number in answer:
+        case.assertIs(type(number), int)
