@@ -14,6 +14,16 @@ def judge(room):
     return [0]
 
 
+def sizes(room):
+    """[0, twice the plan's area, length of lines along x or y, units of x of all others, twice the volume]."""
+    answer = judge(room)
+    if answer != [0]:
+        return answer
+    lines = lines_of(room)
+    area = twice_area(lines)
+    return [0, area, straight_length(lines), slanted_width(lines), area * room[0]]
+
+
 def find_fault(room):
     """The first fault as [rule, wall], None if there is none."""
     if not has_whole_corners(room):
@@ -165,3 +175,13 @@ def side_of(line, x, y):
 def twice_area(lines):
     """Twice the area that the lines go round; below 0 if it lies to their right."""
     return sum([line[0] * line[3] - line[2] * line[1] for line in lines])
+
+
+def straight_length(lines):
+    """How long all lines along x or y are together."""
+    return sum([abs(run_along_x(line)) + abs(run_along_y(line)) for line in lines if is_straight(line)])
+
+
+def slanted_width(lines):
+    """Over how many units of x all other lines go together."""
+    return sum([abs(run_along_x(line)) for line in lines if not is_straight(line)])

@@ -42,6 +42,11 @@ def comb(teeth, length):
     return corners
 
 
+def turned_by_an_eighth(corners, shift):
+    """Turned to the left and made larger, so that straight lines are slanted and go over as much x as they were long."""
+    return [(x - y + shift, x + y) for x, y in corners]
+
+
 def started_at(corners, first):
     """The same corners in the same order, from another one on."""
     return corners[first:] + corners[:first]
