@@ -5,6 +5,10 @@ MOST_CORNERS = 64
 LARGEST_LENGTH = 4095
 LARGEST_STUFF = 7
 
+OUTSIDE = 0
+ON_SURFACE = 1
+INSIDE = 2
+
 
 def judge(room):
     """[0] if it is a room, else [-5, rule, wall]."""
@@ -22,6 +26,14 @@ def sizes(room):
     lines = lines_of(room)
     area = twice_area(lines)
     return [0, area, straight_length(lines), slanted_width(lines), area * room[0]]
+
+
+def where(x, y, z, room):
+    """[2] if the point is inside, [1] if it is on a wall, the floor or the ceiling, [0] if it is outside."""
+    answer = judge(room)
+    if answer != [0]:
+        return answer
+    return [place_in_room(room, x, y, z)]
 
 
 def find_fault(room):
@@ -185,3 +197,42 @@ def straight_length(lines):
 def slanted_width(lines):
     """Over how many units of x all other lines go together."""
     return sum([abs(run_along_x(line)) for line in lines if not is_straight(line)])
+
+
+def place_in_room(room, x, y, z):
+    # On the surface is what's on the edge in plan or in height and outside in neither: the lesser place tells it.
+    return min(place_in_plan(lines_of(room), x, y), place_in_height(room[0], z))
+
+
+def place_in_height(h, z):
+    if z < 0 or z > h:
+        return OUTSIDE
+    if z == 0 or z == h:
+        return ON_SURFACE
+    return INSIDE
+
+
+def place_in_plan(lines, x, y):
+    # A point is a line without length here.
+    if is_touched(lines, (x, y, x, y)):
+        return ON_SURFACE
+    # Each line that a ray from the point toward larger x passes leads in or out.
+    passed = [line for line in lines if is_passed(line, x, y)]
+    return INSIDE if len(passed) % 2 == 1 else OUTSIDE
+
+
+def is_touched(lines, way):
+    """Whether one of the lines has a point in common with the way, a line that may run in any direction."""
+    for line in lines:
+        if have_common_point(line, way):
+            return True
+    return False
+
+
+def is_passed(line, x, y):
+    """Whether the ray from the point, which isn't on the line, toward larger x passes the line."""
+    # An end just as high as the ray counts as above it: so a corner at which the lines stay on one side of the ray
+    # counts twice or not at all, one at which they change sides once, and a line along the ray not at all.
+    if (line[1] < y) == (line[3] < y):
+        return False
+    return (side_of(line, x, y) > 0) == (run_along_y(line) > 0)

@@ -1,5 +1,9 @@
 """Rooms that several tests use, and what tests ask of every call."""
 
+import itertools
+
+from roomacoustics.rooms import judge
+
 LOWEST = -2 ** 256
 HIGHEST = 2 ** 256 - 1
 
@@ -10,6 +14,9 @@ OCTAGON = [(1, 0), (2, 0), (3, 1), (3, 2), (2, 3), (1, 3), (0, 2), (0, 1)]
 # The two arms end on one straight line, with a gap between them.
 CUP = [(0, 0), (9, 0), (9, 5), (6, 5), (6, 2), (3, 2), (3, 5), (0, 5)]
 ARROW = [(0, 0), (4, 4), (8, 0), (8, 8), (0, 8)]
+# Along its upper end it goes down and up: corners where both lines go up, and one where both go down.
+CROWN = [(0, 0), (12, 0), (12, 6), (9, 3), (6, 6), (3, 3), (0, 6)]
+SPIRAL = [(0, 0), (10, 0), (10, 10), (2, 10), (2, 4), (6, 4), (6, 6), (4, 6), (4, 8), (8, 8), (8, 2), (0, 2)]
 LARGEST_BOX = [(0, 0), (4095, 0), (4095, 4095), (0, 4095)]
 
 
@@ -27,7 +34,7 @@ def staircase(steps, unit=1):
     for step in range(1, steps + 1):
         corners.append((steps - step + 1, step))
         corners.append((steps - step, step))
-    return [(x * unit, y * unit) for x, y in corners]
+    return scaled(corners, unit)
 
 
 def comb(teeth, length):
@@ -45,6 +52,45 @@ def comb(teeth, length):
 def turned_by_an_eighth(corners, shift):
     """Turned to the left and made larger, so that straight lines are slanted and go over as much x as they were long."""
     return [(x - y + shift, x + y) for x, y in corners]
+
+
+def turned_by_a_quarter(corners, side):
+    """Turned to the left, within 0 to side."""
+    return [(side - y, x) for x, y in corners]
+
+
+def flipped(corners, side):
+    """Left and right changed about, within 0 to side; walked the other way round, so that the room is to the left."""
+    return [(side - x, y) for x, y in reversed(corners)]
+
+
+def all_ways_round(corners, side):
+    """The eight rooms that it becomes by turning and flipping."""
+    rooms = []
+    for turn in range(4):
+        rooms.extend([corners, flipped(corners, side)])
+        corners = turned_by_a_quarter(corners, side)
+    return rooms
+
+
+def scaled(corners, unit):
+    return [(x * unit, y * unit) for x, y in corners]
+
+
+def small_rooms(side, n):
+    """All rooms of n corners within 0 to side, each told once: from its least corner on."""
+    grown = [[corner] for corner in itertools.product(range(side + 1), repeat=2)]
+    for more in range(n - 1):
+        grown = [corners + [ahead] for corners in grown for ahead in straight_ahead(corners[-1], side)
+                 if ahead > corners[0] and ahead not in corners]
+    return [corners for corners in grown if judge(room_of(corners)) == [0]]
+
+
+def straight_ahead(corner, side):
+    """All corners within 0 to side that lie in one of the eight directions."""
+    x, y = corner
+    return [(u, v) for u, v in itertools.product(range(side + 1), repeat=2)
+            if (u, v) != corner and (u == x or v == y or abs(u - x) == abs(v - y))]
 
 
 def started_at(corners, first):

@@ -4,7 +4,8 @@ import unittest
 from roomacoustics.rooms import judge, sizes
 from samples import (
     ARROW, BOX, CUP, DIAMOND, FAULTS, HIGHEST, LARGEST_BOX, LOWEST, OCTAGON, TRIANGLE,
-    check_keeps_nothing, check_plain_answer, comb, room_of, staircase, started_at, turned_by_an_eighth,
+    check_keeps_nothing, check_plain_answer, comb, room_of, staircase, started_at,
+    turned_by_a_quarter, turned_by_an_eighth,
 )
 
 # Of each room what is told of its plan: twice the area, the straight lines' length, the slanted ones' width.
@@ -73,8 +74,7 @@ class EveryLineCounts(unittest.TestCase):
         for corners, area, length, width in BY_HAND:
             for turn in range(4):
                 self.assertEqual(sizes(room_of(corners, h=2)), [0, area, length, width, 2 * area])
-                # By a quarter to the left, within the bounds.
-                corners = [(4095 - y, x) for x, y in corners]
+                corners = turned_by_a_quarter(corners, 4095)
 
     def test_wherever_the_room_stands(self):
         for corners in (TRIANGLE, BOX, DIAMOND, OCTAGON, CUP, ARROW):
