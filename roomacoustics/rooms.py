@@ -36,6 +36,17 @@ def where(x, y, z, room):
     return [place_in_room(room, x, y, z)]
 
 
+def clear(x, y, z, u, v, w, room):
+    """[1] if the points x, y, z and u, v, w and all points between them are inside, else [0]."""
+    answer = judge(room)
+    if answer != [0]:
+        return answer
+    if place_in_room(room, x, y, z) != INSIDE or place_in_room(room, u, v, w) != INSIDE:
+        return [0]
+    # Between two heights inside there are no others, and a way that starts inside leaves it over a line alone.
+    return [0 if is_touched(lines_of(room), (x, y, u, v)) else 1]
+
+
 def find_fault(room):
     """The first fault as [rule, wall], None if there is none."""
     if not has_whole_corners(room):

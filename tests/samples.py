@@ -98,6 +98,10 @@ def started_at(corners, first):
     return corners[first:] + corners[:first]
 
 
+# Both have 64 corners, and whole points inside wherever one goes in them.
+WIDE_COMB = scaled(comb(16, 10), 2)
+WIDE_STAIRCASE = staircase(31, 2)
+
 # One or more rooms of each rule, with the rule and the wall that are to be told.
 FAULTS = [
     ([], 1, 0),
@@ -166,3 +170,35 @@ def check_plain_answer(case, answer):
     case.assertIs(type(answer), list)
     for number in answer:
         case.assertIs(type(number), int)
+
+
+# A second way of reckoning what's inside: water is let in from beyond the room and comes as far as no line holds it.
+
+# So many times finer than whole numbers that water gets through wherever two lines leave a gap.
+FINE = 4
+
+
+def walked_points(corners):
+    """All fine points on the lines, by walking round."""
+    points = set()
+    for (x, y), (u, v) in zip(corners, started_at(corners, 1)):
+        across, up = (u > x) - (u < x), (v > y) - (v < y)
+        for step in range(FINE * max(abs(u - x), abs(v - y))):
+            points.add((FINE * x + step * across, FINE * y + step * up))
+    return points
+
+
+def points_kept_dry(corners, side):
+    """All fine points strictly within the lines of a room that lies within 0 to side."""
+    lowest, highest = -FINE, FINE * (side + 1)
+    dry = set(itertools.product(range(lowest, highest + 1), repeat=2)) - walked_points(corners)
+    dry.remove((lowest, lowest))
+    fresh = [(lowest, lowest)]
+    while fresh:
+        x, y = fresh.pop()
+        # A slanted line holds the water too, for it takes no slanted step.
+        for point in ((x + 1, y), (x - 1, y), (x, y + 1), (x, y - 1)):
+            if point in dry:
+                dry.remove(point)
+                fresh.append(point)
+    return dry

@@ -2,9 +2,12 @@
 
 import ast
 import builtins
+import inspect
 import pathlib
 import re
 import unittest
+
+from roomacoustics import rooms
 
 PACKAGE = pathlib.Path(__file__).resolve().parent.parent / "roomacoustics"
 
@@ -90,6 +93,21 @@ class Source(unittest.TestCase):
             self.assertLessEqual(len(lines), 400, path.name)
             for line in lines:
                 self.assertLessEqual(len(line), 120, line)
+
+
+class Interface(unittest.TestCase):
+    def test_parameters(self):
+        expected = {
+            "judge": ["room"],
+            "sizes": ["room"],
+            "where": ["x", "y", "z", "room"],
+            "clear": ["x", "y", "z", "u", "v", "w", "room"],
+        }
+        for name, parameters in expected.items():
+            signature = inspect.signature(getattr(rooms, name))
+            self.assertEqual(list(signature.parameters), parameters)
+            for parameter in signature.parameters.values():
+                self.assertIs(parameter.default, inspect.Parameter.empty)
 
 
 def bound_names(node):
