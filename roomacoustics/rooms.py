@@ -47,6 +47,21 @@ def clear(x, y, z, u, v, w, room):
     return [0 if is_touched(lines_of(room), (x, y, u, v)) else 1]
 
 
+def mirror(wall, x, y, z, room):
+    """[0, x, y, z] of the point mirrored in that wall's plane, [-1] if there is no such wall."""
+    answer = judge(room)
+    if answer != [0]:
+        return answer
+    lines = lines_of(room)
+    if wall < len(lines):
+        return [0] + mirrored_in_line(lines[wall], x, y) + [z]
+    if wall == len(lines):
+        return [0, x, y, -z]
+    if wall == len(lines) + 1:
+        return [0, x, y, 2 * room[0] - z]
+    return [-1]
+
+
 def find_fault(room):
     """The first fault as [rule, wall], None if there is none."""
     if not has_whole_corners(room):
@@ -247,3 +262,13 @@ def is_passed(line, x, y):
     if (line[1] < y) == (line[3] < y):
         return False
     return (side_of(line, x, y) > 0) == (run_along_y(line) > 0)
+
+
+def mirrored_in_line(line, x, y):
+    """The point's x and y, mirrored in the line drawn on without end."""
+    along_x = run_along_x(line)
+    along_y = run_along_y(line)
+    twice_off = 2 * side_of(line, x, y)
+    # In the eight directions both divisions leave no rest: of the two runs one is 0, or they are as long.
+    square = along_x * along_x + along_y * along_y
+    return [x + along_y * twice_off // square, y - along_x * twice_off // square]

@@ -102,6 +102,7 @@ class Interface(unittest.TestCase):
             "sizes": ["room"],
             "where": ["x", "y", "z", "room"],
             "clear": ["x", "y", "z", "u", "v", "w", "room"],
+            "mirror": ["wall", "x", "y", "z", "room"],
         }
         for name, parameters in expected.items():
             signature = inspect.signature(getattr(rooms, name))
