@@ -62,6 +62,26 @@ def mirror(wall, x, y, z, room):
     return [-1]
 
 
+def meets(x, y, z, u, v, w, room):
+    """[0, wall, a, b, c, d]: the ray from x, y, z through u, v, w ends in that open wall, at a, b and c over d.
+
+    [-3] if x, y, z isn't inside or u, v, w is the same point, [-4] if the ray ends in no open wall.
+    """
+    answer = judge(room)
+    if answer != [0]:
+        return answer
+    p = (x, y, z)
+    q = (u, v, w)
+    if place_in_room(room, x, y, z) != INSIDE or p == q:
+        return [-3]
+    place = place_on_way(p, q, first_stop(room, p, q))
+    walls = walls_at(room, place)
+    # An open wall is what one wall has for itself: edges and corners belong to two or three.
+    if len(walls) != 1:
+        return [-4]
+    return [0] + walls + place
+
+
 def find_fault(room):
     """The first fault as [rule, wall], None if there is none."""
     if not has_whole_corners(room):
@@ -272,3 +292,63 @@ def mirrored_in_line(line, x, y):
     # In the eight directions both divisions leave no rest: of the two runs one is 0, or they are as long.
     square = along_x * along_x + along_y * along_y
     return [x + along_y * twice_off // square, y - along_x * twice_off // square]
+
+
+def first_stop(room, p, q):
+    """How much of the way from p, which is inside, to q the ray goes until it ends, and what that is over."""
+    way = (p[0], p[1], q[0], q[1])
+    lines = [line for line in lines_of(room) if reaches_across(line, way)]
+    first = None
+    for near, far in zip(depths(room[0], lines, p), depths(room[0], lines, q)):
+        # Just short of its end the ray is inside, so on the room's side of some wall there: no other needs asking.
+        if near > 0 and near > far:
+            stop = (near, near - far)
+            if first is None or is_nearer(stop, first):
+                first = stop
+    return first
+
+
+def depths(h, lines, point):
+    """How far the point is on the room's side of each line, the floor and the ceiling, each in a measure of its own."""
+    return [side_of(line, point[0], point[1]) for line in lines] + [point[2], h - point[2]]
+
+
+def is_nearer(one, other):
+    return one[0] * other[1] < other[0] * one[1]
+
+
+def place_on_way(p, q, stop):
+    """x, y, z and what all three are over, without a common divisor, as far from p to q as the stop tells."""
+    over = stop[1]
+    place = [p[axis] * over + (q[axis] - p[axis]) * stop[0] for axis in range(3)] + [over]
+    divisor = over
+    for number in place:
+        divisor = common_divisor(divisor, number)
+    return [number // divisor for number in place]
+
+
+def common_divisor(one, other):
+    """The greatest one, of a number above 0 and another that is at least 0."""
+    while other != 0:
+        rest = one % other
+        one = other
+        other = rest
+    return one
+
+
+def walls_at(room, place):
+    """All walls that the place, which must not be outside, is on: edges and corners are on each that meets there."""
+    lines = lines_of(room)
+    walls = [wall for wall, line in enumerate(lines) if is_on_line(line, place)]
+    if place[2] == 0:
+        walls.append(len(lines))
+    if place[2] == room[0] * place[3]:
+        walls.append(len(lines) + 1)
+    return walls
+
+
+def is_on_line(line, place):
+    """Whether the place is on the line in plan."""
+    # In a plan so many times larger the place is whole.
+    larger = [number * place[3] for number in line]
+    return have_common_point(larger, (place[0], place[1], place[0], place[1]))

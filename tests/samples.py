@@ -18,6 +18,8 @@ ARROW = [(0, 0), (4, 4), (8, 0), (8, 8), (0, 8)]
 CROWN = [(0, 0), (12, 0), (12, 6), (9, 3), (6, 6), (3, 3), (0, 6)]
 SPIRAL = [(0, 0), (10, 0), (10, 10), (2, 10), (2, 4), (6, 4), (6, 6), (4, 6), (4, 8), (8, 8), (8, 2), (0, 2)]
 LARGEST_BOX = [(0, 0), (4095, 0), (4095, 4095), (0, 4095)]
+# Its corner at (2000, 2000) points into the room.
+LARGE_ANGLE = [(0, 0), (4095, 0), (4095, 2000), (2000, 2000), (2000, 4095), (0, 4095)]
 
 
 def room_of(corners, h=3, floor=0, ceiling=0, stuff=0):
@@ -50,7 +52,7 @@ def comb(teeth, length):
 
 
 def turned_by_an_eighth(corners, shift):
-    """Turned to the left and made larger, so that straight lines are slanted and go over as much x as they were long."""
+    """Turned to the left and made larger: straight lines are slanted then and go over as much x as they were long."""
     return [(x - y + shift, x + y) for x, y in corners]
 
 
@@ -98,6 +100,7 @@ def started_at(corners, first):
     return corners[first:] + corners[:first]
 
 
+WIDE_OCTAGON = scaled(OCTAGON, 3)
 # Both have 64 corners, and whole points inside wherever one goes in them.
 WIDE_COMB = scaled(comb(16, 10), 2)
 WIDE_STAIRCASE = staircase(31, 2)
@@ -202,3 +205,24 @@ def points_kept_dry(corners, side):
                 dry.remove(point)
                 fresh.append(point)
     return dry
+
+
+# The straight lines through whole points along the eight directions cut the plan into triangles, their sides and their
+# corners. Each of these pieces lies as a whole inside, on the lines or outside of a room, as one fine point in it does.
+
+
+def piece_of(x, y):
+    """The fine point that stands for the piece that the point (of fractions) lies in."""
+    left, below = x // 1, y // 1
+    across, up = x - left, y - below
+    if up == 0:
+        place = (0 if across == 0 else 2, 0)
+    elif across == 0:
+        place = (0, 2)
+    elif up == across or up == 1 - across:
+        place = tuple(2 if part * 2 == 1 else 1 if part * 2 < 1 else 3 for part in (across, up))
+    elif up < across:
+        place = (2, 1) if up < 1 - across else (3, 2)
+    else:
+        place = (1, 2) if up < 1 - across else (2, 3)
+    return (FINE * left + place[0], FINE * below + place[1])

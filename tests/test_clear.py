@@ -5,14 +5,10 @@ from fractions import Fraction
 
 from roomacoustics.rooms import clear, judge, where
 from samples import (
-    ARROW, BOX, CROWN, CUP, DIAMOND, FAULTS, FINE, HIGHEST, LARGEST_BOX, LOWEST, OCTAGON, SPIRAL, TRIANGLE, WIDE_COMB,
-    WIDE_STAIRCASE, all_ways_round, check_keeps_nothing, check_plain_answer, points_kept_dry, room_of, scaled,
-    small_rooms, started_at, turned_by_an_eighth,
+    ARROW, BOX, CROWN, CUP, DIAMOND, FAULTS, FINE, HIGHEST, LARGEST_BOX, LARGE_ANGLE, LOWEST, OCTAGON, SPIRAL, TRIANGLE,
+    WIDE_COMB, WIDE_OCTAGON, WIDE_STAIRCASE, all_ways_round, check_keeps_nothing, check_plain_answer, piece_of,
+    points_kept_dry, room_of, scaled, small_rooms, started_at, turned_by_an_eighth,
 )
-
-WIDE_OCTAGON = scaled(OCTAGON, 3)
-# Its corner at (2000, 2000) points into the room.
-LARGE_ANGLE = [(0, 0), (4095, 0), (4095, 2000), (2000, 2000), (2000, 4095), (0, 4095)]
 
 # Of each room, 8 high, pairs of points that see each other: along x, along y, along z, slanted in plan, slanted upward,
 # in none of the eight directions.
@@ -282,26 +278,7 @@ class EachCallByItself(unittest.TestCase):
                 check_plain_answer(self, clear(*p, *q, room))
 
 
-# What follows reckons in another way. The straight lines through whole points along the eight directions cut the plan
-# into triangles, their sides and their corners. Each of these pieces lies as a whole inside, on the lines or outside
-# of a room, as one fine point in it does, and the second way goes through all the pieces that a way comes through.
-
-
-def piece_of(x, y):
-    """The fine point that stands for the piece that the point (of fractions) lies in."""
-    left, below = x // 1, y // 1
-    across, up = x - left, y - below
-    if up == 0:
-        place = (0 if across == 0 else 2, 0)
-    elif across == 0:
-        place = (0, 2)
-    elif up == across or up == 1 - across:
-        place = tuple(2 if part * 2 == 1 else 1 if part * 2 < 1 else 3 for part in (across, up))
-    elif up < across:
-        place = (2, 1) if up < 1 - across else (3, 2)
-    else:
-        place = (1, 2) if up < 1 - across else (2, 3)
-    return (FINE * left + place[0], FINE * below + place[1])
+# What follows compares with a second way, which goes through all the pieces of the plan that a way comes through.
 
 
 def cuts(start, end):

@@ -103,6 +103,7 @@ class Interface(unittest.TestCase):
             "where": ["x", "y", "z", "room"],
             "clear": ["x", "y", "z", "u", "v", "w", "room"],
             "mirror": ["wall", "x", "y", "z", "room"],
+            "meets": ["x", "y", "z", "u", "v", "w", "room"],
         }
         for name, parameters in expected.items():
             signature = inspect.signature(getattr(rooms, name))
